@@ -1,0 +1,1 @@
+"""Linkwork: models of linked parts, solved exactly."""
