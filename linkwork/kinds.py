@@ -58,7 +58,7 @@ def kind_of(expression, kinds):
 
 def joined_kind(word, kinds):
     """Returns the kind of an expression with this word, whose parts have these kinds."""
-    if not all([_fit(kind, needed) for kind, needed in zip(kinds, NEEDED_KINDS[word])]):
+    if "" in kinds or not all([_fit(kind, needed) for kind, needed in zip(kinds, NEEDED_KINDS[word])]):
         return ""
     if word in ("same", "if") and not _fit(kinds[-2], kinds[-1]):
         return ""
@@ -73,8 +73,6 @@ def _usual_kind(word):
 
 def _fit(kind, other):
     """Returns True if one value can be of both kinds."""
-    if kind == "" or other == "":
-        return False
     return kind == other or "either" in (kind, other)
 
 

@@ -40,8 +40,6 @@ class Ratio:
 
 def quotient(first, second):
     """Returns first / second; raises ByZero."""
-    if second.top == 0:
-        raise ByZero("the divisor is 0")
     return Ratio(first.top * second.bottom, first.bottom * second.top)
 
 

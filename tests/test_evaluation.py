@@ -28,7 +28,8 @@ class ValueTest(unittest.TestCase):
     def test_leaves(self):
         for expression, wanted in [
             (num(2, 3), Ratio(2, 3)), (TRUE, True), (FALSE, False), (TIME, Ratio(7, 2)), (INITIAL, False),
-            (var("x"), Ratio(3)), (var("x", 1), Ratio(-1, 2)), (var("t"), True), (pre("x"), Ratio(5)), (pre("t"), False),
+            (var("x"), Ratio(3)), (var("x", 1), Ratio(-1, 2)), (var("t"), True), (pre("x"), Ratio(5)),
+            (pre("t"), False),
         ]:
             self.check(expression, wanted)
 

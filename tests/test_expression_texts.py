@@ -22,17 +22,19 @@ TEXTS = [
 ]
 
 NO_TEXTS = [
-    "", " ", "()", "(1)", "1 ", " 1", "1,2", "1)", "(1", "neg", "neg(", "neg()", "neg(1", "neg(1))", "neg(1),", ",neg(1)",
-    "neg(1)(2)", "neg(1)1", "neg(1)neg(1)", "neg(,1)", "neg(1,)", "neg(1,2)", "neg((1))", "neg (1)", "neg( 1)", "neg(1 )",
-    "Neg(1)", "add(1)", "add(1,2,3)", "add(1,,2)", "add(1, 2)", "add(1;2)", "if(true,1)", "if(true,1,2,3)", "foo(1)", "foo",
-    "num(1)", "truth(true)", "time()", "time(1)", "initial()", "var(1)", "pre(1)", "(1,2)", "sample", "sample()", "sample(1)",
-    "sample(0,1,2)", "sample(0,0)", "sample(0,-1)", "sample(0,neg(1))", "sample(neg(0),1)", "sample(time,1)", "sample(0,true)",
-    "sample(0,@x)", "sample(0,1", "sample(0,2/4)", "sample(00,1)", "sample((0,1))", "01", "-0", "2/4", "1/1", "+1", "1.5",
-    "--1", "True", "TRUE", "@", "@'", "@1", "@_x", "@x'''''", "@'x", "@x'y", "@x' '", "@@x", "@x@", "x", "x'", "pre@", "pre@x'",
-    "pre@1", "pre x", "pre@pre@x", "Pre@x", "@" + "a" * 81, "pre@" + "a" * 81, "@\u00e4", "\u0661", "@x\n", "\n",
+    "", " ", "()", "(1)", "1 ", " 1", "1,2", "1)", "(1", "neg", "neg(", "neg()", "neg(1", "neg(1))", "neg(1),",
+    ",neg(1)", "neg(1)(2)", "neg(1)1", "neg(1)neg(1)", "neg(,1)", "neg(1,)", "neg(1,2)", "neg((1))", "neg (1)",
+    "neg( 1)", "neg(1 )", "Neg(1)", "add(1)", "add(1,2,3)", "add(1,,2)", "add(1, 2)", "add(1;2)", "if(true,1)",
+    "if(true,1,2,3)", "foo(1)", "foo", "num(1)", "truth(true)", "time()", "time(1)", "initial()", "var(1)",
+    "pre(1)", "(1,2)", "sample", "sample()", "sample(1)", "sample(0,1,2)", "sample(0,0)", "sample(0,-1)",
+    "sample(0,neg(1))", "sample(neg(0),1)", "sample(time,1)", "sample(0,true)", "sample(0,@x)", "sample(0,1",
+    "sample(0,2/4)", "sample(00,1)", "sample((0,1))", "01", "-0", "2/4", "1/1", "+1", "1.5", "--1", "True", "TRUE",
+    "@", "@'", "@1", "@_x", "@x'''''", "@'x", "@x'y", "@x' '", "@@x", "@x@", "x", "x'", "pre@", "pre@x'", "pre@1",
+    "pre x", "pre@pre@x", "Pre@x", "@" + "a" * 81, "pre@" + "a" * 81, "@\u00e4", "\u0661", "@x\n", "\n",
     # The kinds do not fit.
-    "neg(true)", "not(1)", "add(1,true)", "and(1,true)", "and(true,1)", "same(1,true)", "if(1,1,1)", "if(true,1,true)",
-    "less(initial,1)", "not(@x')", "neg(same(1,1))", "neg(if(@x,@x,true))", "same(if(@c,@x,1),true)",
+    "neg(true)", "not(1)", "add(1,true)", "and(1,true)", "and(true,1)", "same(1,true)", "if(1,1,1)",
+    "if(true,1,true)", "less(initial,1)", "not(@x')", "neg(same(1,1))", "neg(if(@x,@x,true))",
+    "same(if(@c,@x,1),true)",
 ]
 
 

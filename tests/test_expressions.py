@@ -94,6 +94,13 @@ class FormTest(unittest.TestCase):
                 for wrong in (*WRONG_FORMS, list(parts[k])):
                     self.check((word, *parts[:k], wrong, *parts[k + 1:]), False)
 
+    def test_wrong_kinds_inside_of_operators(self):
+        for word, parts in OPERATORS.items():
+            for k in range(len(parts)):
+                for wrong in WRONG_KINDS:
+                    self.check((word, *parts[:k], wrong, *parts[k + 1:]), False)
+                    self.check((word, *[X for _ in parts[:k]], wrong, *[X for _ in parts[k + 1:]]), False)
+
     def test_orders(self):
         for order in range(-1, 6):
             self.check(var("x", order), 0 <= order <= 4)
@@ -102,8 +109,8 @@ class FormTest(unittest.TestCase):
         for name in ["a", "Z", "a1", "a_", "a.b[1].c", "x..", "b]][[", "A" * 80, "q" + "_" * 79]:
             self.check(var(name), True)
             self.check(pre(name), True)
-        for name in ["", "1", "_a", ".a", "[a", "a b", "a-b", "a'", "a@", "a,b", "a(", "\u00e4", "a\u00e4", "a\n", "A" * 81,
-                     "\u0061\u0301", "x\u0661", "\u00aa"]:
+        for name in ["", "1", "_a", ".a", "[a", "a b", "a-b", "a'", "a@", "a,b", "a(", "\u00e4", "a\u00e4", "a\n",
+                     "A" * 81, "\u0061\u0301", "x\u0661", "\u00aa"]:
             self.check(var(name), False)
             self.check(pre(name), False)
 
@@ -147,6 +154,10 @@ class UsesTest(unittest.TestCase):
     def test_order(self):
         expression = ("add", ("add", var("b"), pre("a")), ("add", ("mul", var("a", 2), var("a")), ("neg", var("a", 4))))
         self.assertEqual(uses(expression), [var("a"), var("a", 2), var("a", 4), pre("a"), var("b")])
+
+    def test_pre_stands_behind_the_orders(self):
+        for first, second in [(pre("x"), var("x", 4)), (var("x", 4), pre("x")), (pre("x"), X), (X, pre("x"))]:
+            self.assertEqual(uses(("add", first, second)), sorted([first, second], key=lambda key: key[0] == "pre"))
 
     def test_each_key_once(self):
         self.assertEqual(uses(("add", ("mul", X, X), ("if", pre("x"), X, pre("x")))), [X, pre("x")])

@@ -29,7 +29,8 @@ UNUSED_NAMES = {
     "register", "mro", "elements", "open", "input", "law", "version_info", "with_traceback", "add_note", "type",
 }
 UNUSED_WORDS = re.compile(
-    r"\b(typing|enum|Enum|Generic|Protocol|ABC|namedtuple|NamedTuple|TypedDict|type)\b|dataclass|overload|contextmanager"
+    r"\b(typing|enum|Enum|Generic|Protocol|ABC|namedtuple|NamedTuple|TypedDict|type)\b"
+    r"|dataclass|overload|contextmanager"
 )
 HARD_NODES = (
     ast.AsyncFunctionDef, ast.Await, ast.Yield, ast.YieldFrom, ast.Global, ast.GeneratorExp, ast.SetComp, ast.Lambda,

@@ -16,7 +16,8 @@ def few(**changes):
     parts = {
         "variables": {
             "x": Variable("x", "state"), "y": Variable("y", "state", start=Ratio(1), fixed=True),
-            "d": Variable("d", "discrete", start=Ratio(2)), "b": Variable("b", "discrete", truth=True, start=False, fixed=True),
+            "d": Variable("d", "discrete", start=Ratio(2)),
+            "b": Variable("b", "discrete", truth=True, start=False, fixed=True),
             "p": Variable("p", "parameter", value=Ratio(3)), "q": Variable("q", "parameter", truth=True, value=True),
             "u": Variable("u", "input"),
         },
@@ -182,10 +183,13 @@ class EquationTest(CheckTest):
     def test_kinds_of_parts_are_those_of_the_variables(self):
         for expression, is_good in [
             (("neg", var("d")), True), (("neg", var("b")), False), (("neg", pre("b")), False),
-            (("if", var("b"), ONE, ONE), True), (("if", var("d"), ONE, ONE), False), (("if", pre("d"), ONE, ONE), False),
-            (("if", ("same", var("b"), var("q")), ONE, ONE), True), (("if", ("same", var("b"), var("d")), ONE, ONE), False),
+            (("if", var("b"), ONE, ONE), True), (("if", var("d"), ONE, ONE), False),
+            (("if", pre("d"), ONE, ONE), False),
+            (("if", ("same", var("b"), var("q")), ONE, ONE), True),
+            (("if", ("same", var("b"), var("d")), ONE, ONE), False),
             (("if", TRUE, var("d"), var("b")), False), (("if", ("not", var("x")), ONE, ONE), False),
-            (("if", ("and", var("q"), pre("b")), ONE, ONE), True), (("if", var("x"), ("neg", var("x")), var("x")), False),
+            (("if", ("and", var("q"), pre("b")), ONE, ONE), True),
+            (("if", var("x"), ("neg", var("x")), var("x")), False),
         ]:
             self.check_sides(is_good, expression)
 
@@ -220,7 +224,8 @@ class WhenTest(CheckTest):
     def test_conditions_are_truths(self):
         for condition in [TRUE, INITIAL, var("b"), pre("b"), var("q"), ("less", var("x"), ONE)]:
             self.good(with_when(condition, []))
-        for condition in [ONE, TIME, var("x"), pre("d"), None, ("and", var("d"), TRUE), ("truth", 1), var("z"), pre("q"),
+        for condition in [ONE, TIME, var("x"), pre("d"), None, ("and", var("d"), TRUE), ("truth", 1), var("z"),
+                          pre("q"),
                           ("less", var("d", 1), ONE), tower(31, TRUE)]:
             self.bad(with_when(condition, []))
 
@@ -250,14 +255,16 @@ class WhenTest(CheckTest):
             self.bad(with_when(TRUE, [("reset", "x", wrong)]))
 
     def test_forms(self):
-        for wrong in [("assign", "d"), ("assign", "d", ONE, ONE), ["assign", "d", ONE], ("set", "d", ONE), (), None, "abc",
+        for wrong in [("assign", "d"), ("assign", "d", ONE, ONE), ["assign", "d", ONE], ("set", "d", ONE), (), None,
+                      "abc",
                       (1, "d", ONE), (["assign"], "d", ONE)]:
             self.bad(with_when(TRUE, [wrong]))
         for wrong in [(TRUE,), (TRUE, [], []), [TRUE, []], TRUE, None, (TRUE, None), (TRUE, ()), ([], TRUE)]:
             self.bad(few(whens={"w": wrong}))
 
     def test_no_two_acts_of_a_when_name_the_same_variable(self):
-        self.good(with_when(TRUE, [("assign", "d", ONE), ("assign", "b", TRUE), ("reset", "x", ONE), ("reset", "y", ONE)]))
+        self.good(with_when(TRUE, [("assign", "d", ONE), ("assign", "b", TRUE), ("reset", "x", ONE),
+                                   ("reset", "y", ONE)]))
         self.bad(with_when(TRUE, [("assign", "d", ONE), ("assign", "d", ONE)]))
         self.bad(with_when(TRUE, [("reset", "x", ONE), ("assign", "d", ONE), ("reset", "x", num(2))]))
 
@@ -342,7 +349,8 @@ class ResidualTest(unittest.TestCase):
 class MergedTest(unittest.TestCase):
     def test_all_that_is_in_one_of_both(self):
         first = few()
-        second = System(states("z"), {"f": (var("z"), ONE)}, {"i2": (var("z"), ONE)}, {"w2": (TRUE, [("reset", "z", ONE)])})
+        second = System(states("z"), {"f": (var("z"), ONE)}, {"i2": (var("z"), ONE)},
+                        {"w2": (TRUE, [("reset", "z", ONE)])})
         before = shape([first, second])
         both = merged(first, second)
         for field in ("variables", "equations", "initials", "whens"):
