@@ -93,7 +93,7 @@ class Scope:
         return self.assembly.known_at("size", joined(around, ref[1][at][0]))
 
     def _bare(self, ref):
-        """Returns the place of the only part that has a size and no index, None if there is no such part."""
+        """Returns where the only part stands that has a size and no index, None if there is no such part."""
         steps = self.steps(ref)
         bare = [at for at in range(len(steps)) if steps[at].size is not None and ref[1][at][1] is None]
         if len(bare) > 1:
