@@ -40,7 +40,7 @@ def uses(expression):
         if part[0] in ("var", "pre"):
             found[part] = True
         waiting.extend(parts_of(part))
-    return sorted(list(found), key=_place)
+    return sorted(list(found), key=place_of)
 
 
 def evaluate(expression, environment):
@@ -53,13 +53,13 @@ def evaluate(expression, environment):
     if word == "sample":
         return _is_sampled(expression[1], expression[2], environment)
     if word == "if":
-        chosen = 2 if _truth(expression[1], environment) else 3
+        chosen = 2 if truth_value(expression[1], environment) else 3
         return evaluate(expression[chosen], environment)
     if word == "same":
         return _is_same(expression[1], expression[2], environment)
     if word in ("not", "and", "or"):
         return _joined_truths(expression, environment)
-    return _calculated(word, [_number(part, environment) for part in expression[1:]])
+    return _calculated(word, [number_value(part, environment) for part in expression[1:]])
 
 
 def renamed(expression, names):
@@ -104,7 +104,8 @@ def read_expression(line):
     return expression
 
 
-def _place(key):
+def place_of(key):
+    """Returns what keys are ordered by: (name, order), with "pre" of a name behind its orders."""
     order = key[2] if key[0] == "var" else MOST_ORDER + 1
     return (key[1], order)
 
@@ -118,14 +119,16 @@ def _looked_up(key, environment):
     return environment[key]
 
 
-def _truth(expression, environment):
+def truth_value(expression, environment):
+    """Returns the value, a truth; raises as evaluate, BadKind."""
     value = evaluate(expression, environment)
     if not isinstance(value, bool):
         raise BadKind("a number stands where a truth is needed")
     return value
 
 
-def _number(expression, environment):
+def number_value(expression, environment):
+    """Returns the value, a number; raises as evaluate, BadKind."""
     value = evaluate(expression, environment)
     if isinstance(value, bool):
         raise BadKind("a truth stands where a number is needed")
@@ -133,7 +136,7 @@ def _number(expression, environment):
 
 
 def _is_sampled(first, period, environment):
-    periods = quotient(_number(("time",), environment) - first, period)
+    periods = quotient(number_value(("time",), environment) - first, period)
     return periods.bottom == 1 and periods.top >= 0
 
 
@@ -146,12 +149,12 @@ def _is_same(first, second, environment):
 
 
 def _joined_truths(expression, environment):
-    first = _truth(expression[1], environment)
+    first = truth_value(expression[1], environment)
     if expression[0] == "not":
         return not first
     if first == (expression[0] == "or"):
         return first
-    return _truth(expression[2], environment)
+    return truth_value(expression[2], environment)
 
 
 def _calculated(word, numbers):

@@ -2,8 +2,8 @@
 
 from math import lcm
 
-from linkwork.errors import ManySolutions, NoSolution
-from linkwork.ratios import Ratio, quotient
+from linkwork.errors import ManySolutions, NoSolution, Singular
+from linkwork.ratios import Ratio
 
 
 class Elimination:
@@ -13,16 +13,20 @@ class Elimination:
     constant at the end, and `leads` the columns of their first numbers other than 0. These are
     the basis columns. `wrong` is the index of the first row with which there is no solution,
     or None.
+
+    All constants, and so the solutions, are multiplied by `scale`. Constants may have far longer
+    denominators than the other numbers, which they would make as long if each row had its own.
     """
 
     def __init__(self, rows, constants):
         self.columns = len(rows[0]) if rows else 0
+        self.scale = _common_bottom(constants)
         self.basis = []
         self.rows = []
         self.leads = []
         self.wrong = None
         for at, (row, constant) in enumerate(list(zip(rows, constants))):
-            reduced = self._reduced(_integers([*row, constant]))
+            reduced = self._reduced(self._integers(row, constant))
             used = [column for column in range(self.columns) if reduced[column] != 0]
             if used:
                 self.basis.append(at)
@@ -30,6 +34,13 @@ class Elimination:
                 self.leads.append(used[0])
             elif reduced[self.columns] != 0 and self.wrong is None:
                 self.wrong = at
+
+    def _integers(self, row, constant):
+        """Returns the row with its constant, multiplied so that all are integers."""
+        bottom = _common_bottom(row)
+        found = [number.top * (bottom // number.bottom) for number in row]
+        found.append(constant.top * (self.scale // constant.bottom) * bottom)
+        return found
 
     def _reduced(self, row):
         """Returns a multiple of the row, less multiples of the basis rows, that is 0 at all leads.
@@ -50,21 +61,29 @@ class Elimination:
         return [column for column in range(self.columns) if column not in self.leads]
 
     def solution(self, free_numbers):
-        """Returns the solution that has these numbers, or 0, for the columns that are no basis columns."""
-        found = [free_numbers.get(column, Ratio(0)) for column in range(self.columns)]
+        """Returns the solution that has these integers, or 0, for the columns that are no basis columns.
+
+        The last lead is the determinant of the basis, so all numbers times it are integers.
+        """
+        determinant = self.rows[-1][self.leads[-1]] if self.rows else 1
+        found = [free_numbers.get(column, 0) * self.scale * determinant for column in range(self.columns)]
         for lead, at in sorted([(self.leads[at], at) for at in range(len(self.leads))], reverse=True):
             row = self.rows[at]
-            total = Ratio(row[self.columns])
+            total = row[self.columns] * determinant
             for column in range(lead + 1, self.columns):
-                if row[column] != 0 and found[column].top != 0:
-                    total = total - Ratio(row[column]) * found[column]
-            found[lead] = quotient(total, Ratio(row[lead]))
-        return found
+                total -= row[column] * found[column]
+            found[lead] = total // row[lead]
+        return [Ratio(number, determinant * self.scale) for number in found]
 
 
 def rank(rows):
     """Returns the number of the basis rows."""
     return len(_without_constants(rows).basis)
+
+
+def basis_columns(rows):
+    """Returns the list of the basis columns."""
+    return sorted(_without_constants(rows).leads)
 
 
 def solve_linear(rows, constants):
@@ -77,10 +96,18 @@ def solve_linear(rows, constants):
     return elimination.solution({})
 
 
+def only_solution(rows, constants):
+    """Returns the only solution; raises Singular if there is none, or more than one."""
+    elimination = Elimination(rows, constants)
+    if elimination.wrong is not None or elimination.free_columns():
+        raise Singular("there is not just one solution")
+    return elimination.solution({})
+
+
 def kernel(rows):
     """Returns for each column that is no basis column the solution for the constants 0 that has 1 for it."""
     elimination = _without_constants(rows)
-    return [elimination.solution({column: Ratio(1)}) for column in elimination.free_columns()]
+    return [elimination.solution({column: 1}) for column in elimination.free_columns()]
 
 
 def contradiction(rows, constants):
@@ -102,9 +129,9 @@ def _without_constants(rows):
     return Elimination(rows, [Ratio(0) for _ in rows])
 
 
-def _integers(row):
-    """Returns the row multiplied by the least number that makes it a row of integers."""
-    scale = 1
-    for number in row:
-        scale = lcm(scale, number.bottom)
-    return [number.top * (scale // number.bottom) for number in row]
+def _common_bottom(numbers):
+    """Returns the least number that makes all of these integers when they are multiplied by it."""
+    found = 1
+    for number in numbers:
+        found = lcm(found, number.bottom)
+    return found

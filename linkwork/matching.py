@@ -1,6 +1,7 @@
 """Which equation determines which unknown (points 41 to 44)."""
 
 from linkwork.expressions import uses
+from linkwork.systems import names_of
 from linkwork.ways import reached
 
 
@@ -16,13 +17,12 @@ def graph(system, keys):
 
 def tops(system):
     """Returns for each state the key of the greatest order with which it occurs in the equations."""
-    states = [name for name in sorted(list(system.variables)) if system.variables[name].kind == "state"]
-    orders = {name: 0 for name in states}
+    tops_of_states = {name: 0 for name in names_of(system, "state")}
     for sides in system.equations.values():
-        for key in _uses_of_sides(sides):
-            if key[0] == "var" and key[1] in orders:
-                orders[key[1]] = max(orders[key[1]], key[2])
-    return [("var", name, orders[name]) for name in states]
+        for name, order in greatest_orders(sides).items():
+            if name in tops_of_states:
+                tops_of_states[name] = max(tops_of_states[name], order)
+    return [("var", name, order) for name, order in tops_of_states.items()]
 
 
 def match(graph):
@@ -50,7 +50,7 @@ def parts(graph):
     """
     keys, joined = graph
     pairs = greatest(joined, {})
-    spare = _equations_left_out(joined, pairs)
+    spare = equations_left_out(joined, pairs)
     over_keys = _joined_keys(spare, joined)
     under_keys = _keys_reached(joined, pairs, _free_keys(keys, pairs))
     under = [name for name in joined if any([key in under_keys for key in joined[name]])]
@@ -69,13 +69,22 @@ def lack(graph):
     pairs = greatest(joined, {})
     if len(pairs) == len(joined):
         return None
-    left = {name: joined[name] for name in _equations_left_out(joined, pairs)}
+    left = {name: joined[name] for name in equations_left_out(joined, pairs)}
     for name in sorted(list(left), reverse=True):
         fewer = {other: left[other] for other in left if other != name}
         pairs = greatest(fewer, {other: pairs[other] for other in pairs if other in fewer})
         if len(pairs) < len(fewer):
             left = fewer
     return (sorted(list(left)), sorted(list(_joined_keys(left, joined))))
+
+
+def greatest_orders(sides):
+    """Returns for each name of a variable in the sides of an equation the greatest order with which it occurs."""
+    found = {}
+    for key in _uses_of_sides(sides):
+        if key[0] == "var":
+            found[key[1]] = max(found.get(key[1], 0), key[2])
+    return found
 
 
 def _uses_of_sides(sides):
@@ -127,7 +136,7 @@ def _way(start, free_key, sources, pairs):
 
 def _least_key(name, keys, joined, pairs):
     """Returns the least key that an equation has in any greatest matching, or None."""
-    if name in _equations_left_out(joined, pairs):
+    if name in equations_left_out(joined, pairs):
         return joined[name][0] if joined[name] else None
     targets = [*_free_keys(keys, pairs), pairs[name]]
     usable = _keys_reached(joined, pairs, targets)
@@ -144,7 +153,7 @@ def _joined_keys(names, joined):
     return {key: True for name in names for key in joined[name]}
 
 
-def _equations_left_out(joined, pairs):
+def equations_left_out(joined, pairs):
     """Returns the equations that can be left out of a greatest matching, as the keys of a dict.
 
     One that has no key takes one that another equation has, and so on.

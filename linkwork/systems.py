@@ -1,7 +1,7 @@
 """Systems of variables and equations (points 7 and 8)."""
 
-from linkwork.errors import BadKind, BadSystem
-from linkwork.expressions import evaluate, is_expression, uses
+from linkwork.errors import BadSystem
+from linkwork.expressions import is_expression, number_value, uses
 from linkwork.kinds import kind_of
 from linkwork.names import is_name
 from linkwork.ratios import Ratio
@@ -48,8 +48,8 @@ def residuals(system, environment):
     found = {}
     for name in sorted(list(system.equations)):
         left, right = system.equations[name]
-        first = _side(left, environment)
-        found[name] = first - _side(right, environment)
+        first = number_value(left, environment)
+        found[name] = first - number_value(right, environment)
     return found
 
 
@@ -72,17 +72,15 @@ def merged(first, second):
     return both
 
 
+def names_of(system, kind):
+    """Returns the ascending list of the names of the variables of this kind."""
+    return [name for name in sorted(list(system.variables)) if system.variables[name].kind == kind]
+
+
 def _copied_when(when):
     if isinstance(when, tuple) and len(when) == 2 and isinstance(when[1], list):
         return (when[0], list(when[1]))
     return when
-
-
-def _side(expression, environment):
-    value = evaluate(expression, environment)
-    if isinstance(value, bool):
-        raise BadKind("a side of an equation is a truth")
-    return value
 
 
 def _joined(first, second):
