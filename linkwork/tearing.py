@@ -52,9 +52,7 @@ def _pairs(used, tears):
     while ready:
         column = waiting[ready[0]][0]
         found.append((ready[0], column))
-        waiting = {
-            at: [other for other in waiting[at] if other != column] for at in waiting if at != ready[0]
-        }
+        waiting = {at: [other for other in waiting[at] if other != column] for at in waiting}
         ready = [at for at in waiting if len(waiting[at]) == 1]
     return found
 

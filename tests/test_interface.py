@@ -5,6 +5,7 @@ import inspect
 import unittest
 
 import linkwork.errors
+from linkwork import events
 
 FUNCTIONS = {
     "ratios": ["quotient(first, second)", "is_less(first, second)", "is_at_most(first, second)", "ratio_text(value)",
@@ -27,6 +28,18 @@ FUNCTIONS = {
     "matching": ["graph(system, keys)", "tops(system)", "match(graph)", "parts(graph)", "lack(graph)"],
     "blocks": ["blocks(graph)"],
     "linear": ["rank(rows)", "kernel(rows)", "solve_linear(rows, constants)", "contradiction(rows, constants)"],
+    "tearing": ["torn(rows, tears)", "best_tears(rows)", "solve_torn(rows, constants, tears)"],
+    "rows": ["is_linear(expression, keys)", "row(expression, keys, environment)"],
+    "derivatives": ["derivative(system, expression)", "offsets(system)", "reduced(system)", "unknowns(system)"],
+    "states": ["matrix(system, environment)", "free_unknowns(system, environment, preferred=())"],
+    "beginning": ["signal_value(coefficients, order, time)", "base(system, signals, time, initial)",
+                  "begin(system, signals, time)", "blame(system, signals, time)"],
+    "steps": ["step(system, environment, signals, time, method)"],
+    "events": ["triggered(system, before, now)", "fire(system, now, names)", "next_event(system, time)",
+               "run(system, signals, plan)"],
+    "coupled": ["feed_order(plant)", "whole(plant)", "begin_all(plant, signals, time)",
+                "macro_step(plant, environments, signals, length, method)"],
+    "checking": ["faults(system, signals, plan, instants)"],
 }
 CLASSES = {
     "ratios": ["Ratio(numerator, denominator=1)"],
@@ -53,6 +66,9 @@ class InterfaceTest(unittest.TestCase):
 
     def test_classes(self):
         self.check(CLASSES, inspect.isclass)
+
+    def test_values(self):
+        self.assertEqual((events.MOST_ROUNDS, events.MOST_INSTANTS), (20, 200))
 
     def test_errors_derive_from_the_base_class_alone(self):
         for place in [*FUNCTIONS, "errors"]:

@@ -71,6 +71,11 @@ class LinearTest(Unchanged, unittest.TestCase):
                 ("if(true,mul(@x,@x),1)", False), ("if(false,1,div(1,@y))", False), ("if(false,@z,@y)", True)):
             self.linear(text, "@x @y", expected)
 
+    def test_a_key_that_is_a_condition(self):
+        self.linear("if(@b,1,2)", "@b", False)
+        self.linear("if(@b,@x,@y)", "@b @x", False)
+        self.linear("if(@b,@x,@y)", "@x @y", True)
+
     def test_the_definition(self):
         source = random.Random(48)
         seen = {True: 0, False: 0}
