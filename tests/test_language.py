@@ -155,6 +155,18 @@ class RuleTest(unittest.TestCase):
         for place, node in self.nodes(ast.FunctionDef):
             self.assertTrue(not node.name.startswith("__") or node.name in DOUBLE, place)
 
+    def test_stars_in_calls_stand_before_names(self):
+        for place, node in self.nodes(ast.Call):
+            for argument in node.args:
+                if isinstance(argument, ast.Starred):
+                    self.assertIsInstance(argument.value, (ast.Name, ast.Attribute), place)
+
+    def test_own_errors_only_are_caught(self):
+        own = {node.name for _, node in self.nodes(ast.ClassDef)}
+        for place, node in self.nodes(ast.ExceptHandler):
+            for caught in node.type.elts if isinstance(node.type, ast.Tuple) else [node.type]:
+                self.assertIn(caught.id, own | {"KeyError", "ZeroDivisionError"}, place)
+
     def test_words_and_strings(self):
         for place, node in self.nodes(ast.Constant):
             self.assertNotIsInstance(node.value, (float, complex, bytes), place)
